@@ -56,3 +56,21 @@ def tree_of(many, tell):
     if many <= 15:
         return lets_around(many - 1, tell)
     return ("if", (), (), 0, lets_around(14, tell), tree_of(many - 16, tell))
+
+
+def let(*parts):
+    """Lets within one another: a name and a deed in turn, the last part being the tree within."""
+    *pairs, tree = parts
+    for name, deed in reversed(list(zip(pairs[::2], pairs[1::2]))):
+        tree = ("let", name, deed, tree)
+    return tree
+
+
+# Function 1 makes a list of the same items, one by one.
+COPY = (
+    ((("l", "list"),), "list", let("told", ("call", 1, ("l",)), ("tell", "told"))),
+    ((("l", "list"),), "list",
+     ("if", ("len", "l"), (), 0, ("tell", "l"),
+      let("x", ("head", "l"), "rest", ("tail", "l"), "more", ("call", 1, ("rest",)), "made", ("put", "x", "more"),
+          ("tell", "made")))),
+)

@@ -65,6 +65,65 @@ class LanguageTest(unittest.TestCase):
                 if isinstance(node, ast.Name) and node.id in known:
                     self.assertIn(node.id, BUILTINS, name)
 
+    def test_names_are_bound_once(self):
+        """No parameter and no local name is that of an import or a class of its file."""
+        for name, text in sources():
+            tree = ast.parse(text)
+            taken = {alias.name for node in tree.body if isinstance(node, ast.ImportFrom) for alias in node.names}
+            taken |= {node.name for node in tree.body if isinstance(node, ast.ClassDef)}
+            for node in ast.walk(tree):
+                if isinstance(node, ast.arg):
+                    self.assertNotIn(node.arg, taken, name)
+                if isinstance(node, ast.Name) and isinstance(node.ctx, ast.Store):
+                    self.assertNotIn(node.id, taken, name)
+
+    def test_no_name_is_a_method_and_an_attribute(self):
+        methods, attributes = set(), set()
+        for _, text in sources():
+            for node in ast.walk(ast.parse(text)):
+                if isinstance(node, ast.ClassDef):
+                    methods |= {row.name for row in node.body if isinstance(row, ast.FunctionDef)}
+                if isinstance(node, ast.Attribute) and isinstance(node.ctx, ast.Store):
+                    attributes.add(node.attr)
+        self.assertEqual(methods & attributes, set())
+
+    def test_is_stands_beside_none_alone(self):
+        for name, text in sources():
+            for node in ast.walk(ast.parse(text)):
+                if isinstance(node, ast.Compare) and any(isinstance(sign, (ast.Is, ast.IsNot)) for sign in node.ops):
+                    side = node.comparators[0]
+                    self.assertTrue(isinstance(side, ast.Constant) and side.value is None, (name, node.lineno))
+
+    def test_no_star_in_a_set_and_no_generator(self):
+        for name, text in sources():
+            for node in ast.walk(ast.parse(text)):
+                self.assertNotIsInstance(node, (ast.GeneratorExp, ast.Yield, ast.YieldFrom), name)
+                if isinstance(node, ast.Set):
+                    self.assertFalse(any(isinstance(part, ast.Starred) for part in node.elts), name)
+
+    def test_sets_are_sorted_or_counted_on_the_spot(self):
+        for name, text in sources():
+            tree = ast.parse(text)
+            seen = set()
+            for node in ast.walk(tree):
+                if isinstance(node, ast.Call) and isinstance(node.func, ast.Name) and node.func.id in ("sorted", "len"):
+                    seen |= {id(part) for part in node.args}
+            for node in ast.walk(tree):
+                made = isinstance(node, ast.Call) and isinstance(node.func, ast.Name) and node.func.id == "set"
+                if made or isinstance(node, (ast.SetComp, ast.Set)):
+                    self.assertIn(id(node), seen, (name, node.lineno))
+
+    def test_no_two_files_import_from_each_other(self):
+        heads = {}
+        for name, text in sources():
+            heads["claimsieve." + name[:-3]] = {
+                node.module for node in ast.parse(text).body if isinstance(node, ast.ImportFrom)}
+        while heads:
+            free = [name for name, modules in heads.items() if not modules & set(heads)]
+            self.assertTrue(free, heads)
+            for name in free:
+                del heads[name]
+
     def test_no_float_and_no_global(self):
         for name, text in sources():
             for node in ast.walk(ast.parse(text)):
