@@ -143,10 +143,8 @@ class Court:
         self.claims = {claim: True for claim in ground.claims_known(standing)}
         self.plain = {link: True for link in ground.links([], [])}
         for name in ground.lists:
+            # Where an item is told of, the links say -1; no item of its own is told of a list that was put.
             self.plain[((), ("len", name), 0)] = True
-        for name in ground.made:
-            # The number that was put is an item of the list itself.
-            self.plain[((), ("len", name), -1)] = True
         self.tables = {}
 
     def is_end(self, end, wanted):

@@ -510,9 +510,10 @@ class EachTest(CheckingTest):
         self.assertFalse(self.end_told(program, start, claim, (number, ((("m", chain),), own))))
         self.assertFalse(self.end_told(program, start, claim, (number, ((), own))))
         length = ((), ("len", 2), 0)
-        for shown in (chain, (((), ("len", "m"), 0),), (((), ("len", "m"), -1),)):
+        for shown in (chain, (((), ("len", "m"), 0),)):
             self.assertTrue(self.end_told(program, start, length, (((), (*shown, (("len", "m"), (), -1))),)))
-        for shown in ((((), ("len", "m"), -2),), (((), ("len", "m"), 1),), ((), (((), LEN, -1), *chain[1:]))):
+        for shown in ((((), ("len", "m"), -1),), (((), ("len", "m"), -2),), (((), ("len", "m"), 1),),
+                      (((), LEN, -1), *chain[1:])):
             self.assertFalse(self.end_told(program, start, length, (((), (*shown, (("len", "m"), (), -1))),)))
 
 
