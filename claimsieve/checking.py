@@ -140,7 +140,7 @@ class Court:
     def __init__(self, ground, standing):
         self.ground = ground
         self.standing = standing
-        self.claims = {claim: True for claim in ground.claims_known(standing)}
+        self.told = {claim: True for claim in ground.claims_known(standing)}
         self.plain = {link: True for link in ground.links([], [])}
         for name in ground.lists:
             # Where an item is told of, the links say -1; no item of its own is told of a list that was put.
@@ -195,7 +195,7 @@ class Court:
         measures = self.measures_by_term(some)
         term, other, n = link
         return any([
-            (first, second, n) in self.claims
+            (first, second, n) in self.told
             for first in measures.get(term, [])
             for second in measures.get(other, [])
         ])

@@ -1,11 +1,12 @@
 """Papers: what shows that a sieve struck nothing that could stay, and that all that stays is kept."""
 
-from claimsieve.claims import NUMBERS
+from claimsieve.claims import NUMBERS, check_asked
 from claimsieve.sieve import Search, sifted
 
 
 def paper(program, start, *, numbers=NUMBERS):
     """The strikes, each with the world that shows it, and an end for all that is wanted behind them."""
+    check_asked(program, start, numbers)
     sieve = sifted(program, start, numbers)
     found = []
     for ground in sieve.grounds:

@@ -17,10 +17,7 @@ def run(program, args, answers, *, most=MOST_CALLS):
     if not is_between(most, 1, HIGHEST_MOST):
         raise BadCount("most can't be")
     going = Run(program, answers, most)
-    going.begin(0, tuple(args))
-    end = None
-    while end is None:
-        end = going.step()
+    end = going.go(tuple(args))
     return end, going.told_calls()
 
 
@@ -71,6 +68,14 @@ class Run:
         self.begun = []
         self.told = {}
         self.open_calls = []
+
+    def go(self, handed):
+        """Go on till the run ends, and tell what comes of it; handed is what function 0 is handed."""
+        self.begin(0, handed)
+        end = None
+        while end is None:
+            end = self.step()
+        return end
 
     def told_calls(self):
         return [(function, handed, self.told.get(row)) for row, (function, handed) in enumerate(self.begun)]

@@ -10,17 +10,13 @@ NO_CHAIN = 1000000000
 
 def sieved(program, start, *, numbers=NUMBERS):
     """What stays of each function's claims, and the places where something lacks."""
+    check_asked(program, start, numbers)
     sieve = sifted(program, start, numbers)
-    stays = [
-        (list(sieve.standing[(number, "ahead")]), list(sieve.standing[(number, "behind")]))
-        for number in range(len(program))
-    ]
-    return stays, sieve.lacks()
+    return sieve.stays(), sieve.lacks()
 
 
 def sifted(program, start, numbers):
-    """A sieve of what is handed in, all struck that clauses don't keep."""
-    check_asked(program, start, numbers)
+    """A sieve of what is known to be fit for one, all struck that clauses don't keep."""
     sieve = Sieve(program, start, numbers)
     sieve.sift()
     return sieve
@@ -30,6 +26,7 @@ class Sieve:
     """A program's clauses, the claims that stand, and the strikes so far."""
 
     def __init__(self, program, start, numbers):
+        self.many = len(program)
         self.rows = clauses(program)
         self.grounds = [Ground(row) for row in self.rows]
         self.standing = standing_first(program, start, numbers)
@@ -71,15 +68,27 @@ class Sieve:
                 self.waiting[other] = True
         return [claim for claim in left if claim not in gone]
 
+    def stays(self):
+        """For each function the claims that stand ahead and behind."""
+        return [
+            (list(self.standing[(number, "ahead")]), list(self.standing[(number, "behind")]))
+            for number in range(self.many)
+        ]
+
     def lacks(self):
         """The places where a goal "most" isn't kept, each once."""
         found = []
-        for row, ground in zip(self.rows, self.grounds):
-            place = row[:2]
-            if ground.goal[0] == "most" and place not in found:
-                if Search(ground, self.standing).world_against(ground.goal[1:]) is not None:
-                    found.append(place)
+        for number, row in enumerate(self.rows):
+            if row[:2] not in found and self.world_lacking(number) is not None:
+                found.append(row[:2])
         return found
+
+    def world_lacking(self, number):
+        """A world of a clause that keeps all but its goal "most"; None if there is none, or the goal is another."""
+        ground = self.grounds[number]
+        if ground.goal[0] != "most":
+            return None
+        return Search(ground, self.standing).world_against(ground.goal[1:])
 
 
 class Search:
@@ -87,11 +96,11 @@ class Search:
 
     def __init__(self, ground, standing):
         self.ground = ground
-        self.claims = strongest(ground.claims_known(standing))
+        self.told = strongest(ground.claims_known(standing))
         self.settings = {}
         self.plain = Setting(ground, {}, Bounds())
         self.plain.add_terms(ground.plain_terms())
-        self.plain.heed(ground.links(self.claims, []))
+        self.plain.heed(ground.links(self.told, []))
 
     def setting(self, some):
         """What is known where some items are told of; it is asked for again and again."""
@@ -100,7 +109,7 @@ class Search:
             terms_in = {name: self.ground.inside(name, some) for name in self.ground.lists}
             setting = Setting(self.ground, terms_in, self.plain.bounds.twin())
             setting.add_terms([term for term, _ in some])
-            setting.heed(self.ground.links(self.claims, some))
+            setting.heed(self.ground.links(self.told, some))
             setting.settle()
             self.settings[key] = setting
         return self.settings[key]
