@@ -146,6 +146,12 @@ class TriesTest(unittest.TestCase):
         self.is_try(("list",), 0, [()], [], start)
         self.is_try(("list",), 6, [(0,)], [], start)
         self.is_try(("list",), 12, [(0, 0)], [], start)
+        # Of a list of several all of them are to be so.
+        for items in ((0, 1), (1, 0)):
+            program, place = faults_only_at(self.params("list"), [items], [])
+            self.assertIsNone(broken(program, start, 0, place, tries=2000))
+            for claim in ((EACH0, (), 0), ((), EACH0, -1)):
+                self.assertIsNone(broken(program, [claim], 0, place, tries=2000))
         start = [((), LEN0, -2), (EACH0, (), 1), ((), EACH0, 0)]
         self.is_try(("list",), 6, [(0, 1)], [], start)
         self.is_try(("list",), 12 + 5, [(1, 0)], [2, 1, 0], start)
